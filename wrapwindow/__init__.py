@@ -1,0 +1,1 @@
+"""Links that transfer items with wrapped sequence numbers over a bad channel."""
