@@ -1,22 +1,12 @@
 import unittest
 
 from asking import (
-    BIG, acknowledge, ask, assert_refused, corrupt_ack, deliver_ack, deliver_frame, last, list_frames, lose_ack,
-    new_link, numbered, retransmit, send_ack, send_item, send_items, transfer,
+    BIG, acknowledge, ask, assert_refused, corrupt_ack, deliver_ack, deliver_frame, forged_ack, last, list_frames,
+    lose_ack, new_link, numbered, retransmit, send_ack, send_item, send_items, transfer,
 )
 
 LINK = [new_link(3, 20, 9, 3, 0)]
 THREE = send_items(0, 0, 3)
-
-
-def right_sum(fields):
-    return (sum((place + 1) * field for place, field in enumerate(fields)) + 97 * len(fields)) % 1000003
-
-
-def forged(fields, place=0):
-    """The acknowledgement at a place becomes one with these fields and the checksum that fits."""
-    calls = [corrupt_ack(0, place, i, field) for i, field in enumerate(fields)]
-    return calls + [corrupt_ack(0, place, len(fields), right_sum(fields))]
 
 
 class SendAck(unittest.TestCase):
@@ -97,28 +87,28 @@ class DeliverAck(unittest.TestCase):
 
     def test_the_base_passes_over_what_was_acknowledged_before(self):
         before = LINK + THREE + [deliver_frame(0, 1, 0)] + acknowledge(0)
-        before += [send_ack(0)] + forged([1, 0, 0]) + [deliver_ack(0, 0, 0)]
+        before += [send_ack(0)] + forged_ack(0, 0, [1, 0, 0]) + [deliver_ack(0, 0, 0)]
         self.assertEqual(last(before), [2, 2, 0])
 
     def test_y_itself_is_not_acknowledged(self):
-        before = LINK + THREE + [send_ack(0)] + forged([1, 1, 0]) + [deliver_ack(0, 0, 0)]
+        before = LINK + THREE + [send_ack(0)] + forged_ack(0, 0, [1, 1, 0]) + [deliver_ack(0, 0, 0)]
         self.assertEqual(last(before), [2, 1, 0])
         self.assertEqual(ask(before + [retransmit(0, n) for n in range(3)])[-3:], [[-6], [1], [-6]])
 
     def test_only_exactly_1_acknowledges(self):
         for field in (0, 2, -1, 3, 40000):
-            before = LINK + THREE + [send_ack(0)] + forged([0, field, 1]) + [deliver_ack(0, 0, 0)]
+            before = LINK + THREE + [send_ack(0)] + forged_ack(0, 0, [0, field, 1]) + [deliver_ack(0, 0, 0)]
             self.assertEqual(last(before), [2, 0, 0])
             self.assertEqual(ask(before + [retransmit(0, n) for n in range(3)])[-3:], [[1], [1], [-6]])
 
     def test_numbers_not_yet_in_the_window_are_not_acknowledged(self):
         # Number 3 enters the window only behind this acknowledgement, whose last field stands for it.
-        before = LINK + send_items(0, 0, 5) + [send_ack(0)] + forged([1, 0, 1]) + [deliver_ack(0, 0, 0)]
+        before = LINK + send_items(0, 0, 5) + [send_ack(0)] + forged_ack(0, 0, [1, 0, 1]) + [deliver_ack(0, 0, 0)]
         self.assertEqual(last(before), [2, 1, 1])
         self.assertEqual(ask(before + [retransmit(0, n) for n in range(5)])[-5:], [[-6], [1], [1], [1], [-6]])
 
     def test_numbers_never_sent_are_not_acknowledged(self):
-        before = LINK + send_items(0, 0, 1) + [send_ack(0)] + forged([0, 1, 1]) + [deliver_ack(0, 0, 0)]
+        before = LINK + send_items(0, 0, 1) + [send_ack(0)] + forged_ack(0, 0, [0, 1, 1]) + [deliver_ack(0, 0, 0)]
         self.assertEqual(last(before), [2, 0, 0])
         self.assertEqual(ask(before + send_items(0, 1, 2) + [retransmit(0, 1), retransmit(0, 2)])[-2:], [[1], [1]])
 
@@ -129,14 +119,16 @@ class DeliverAck(unittest.TestCase):
             before += transfer(0, number) + acknowledge(0)
         before += send_items(0, 4, 2) + [send_ack(0)]
         for field, status, base in ((4, 2, 4), (0, 2, 5), (1, 2, 6), (2, 1, 4), (3, 1, 4), (5, 1, 4), (-1, 1, 4)):
-            self.assertEqual(last(before + forged([field, 0, 0]) + [deliver_ack(0, 0, 0)]), [status, base, 0], field)
+            calls = before + forged_ack(0, 0, [field, 0, 0]) + [deliver_ack(0, 0, 0)]
+            self.assertEqual(last(calls), [status, base, 0], field)
 
     def test_an_empty_window(self):
         for field, status in ((0, 2), (1, 1), (19, 1)):
-            self.assertEqual(last(LINK + [send_ack(0)] + forged([field, 1, 1]) + [deliver_ack(0, 0, 0)]), [status, 0, 0])
+            calls = LINK + [send_ack(0)] + forged_ack(0, 0, [field, 1, 1]) + [deliver_ack(0, 0, 0)]
+            self.assertEqual(last(calls), [status, 0, 0])
 
     def test_an_ignored_one_acknowledges_nothing(self):
-        before = LINK + send_items(0, 0, 4) + [send_ack(0)] + forged([5, 1, 1]) + [deliver_ack(0, 0, 0)]
+        before = LINK + send_items(0, 0, 4) + [send_ack(0)] + forged_ack(0, 0, [5, 1, 1]) + [deliver_ack(0, 0, 0)]
         self.assertEqual(ask(before + [retransmit(0, n) for n in range(3)])[-4:], [[1, 0, 0], [1], [1], [1]])
 
     def test_an_old_one_acknowledges_nothing(self):

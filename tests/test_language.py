@@ -34,6 +34,19 @@ type typing typing_extensions enum Enum IntEnum StrEnum Flag IntFlag Generic Pro
 TypedDict TYPE_CHECKING abstractmethod
 """.split()
 
+# The methods of Python's own values that may be called, and the keywords that its own names may have.
+OWN_METHODS = """
+append clear copy count endswith extend find get index insert isalnum isalpha isdigit islower isspace isupper items join
+keys ljust lower lstrip partition pop remove replace reverse rfind rjust rpartition rsplit rstrip setdefault split
+splitlines startswith strip update upper values zfill bit_length
+""".split()
+KEYWORDS = {
+    "sorted": ("key", "reverse"), "min": ("key", "default"), "max": ("key", "default"), "sum": ("start",),
+    "enumerate": ("start",), "zip": ("strict",),
+}
+WALKS = ("zip", "enumerate", "reversed", "range")
+WALKERS = "list tuple dict sorted sum any all enumerate zip min max".split()
+
 VALUES = (str, int, list, dict, set, bytes)
 FREE_VALUES = "count index title find get join lower upper split strip copy add".split()
 
@@ -130,6 +143,48 @@ class Language(unittest.TestCase):
         for name in (methods | values) - set(FREE_VALUES):
             self.assertFalse(any(hasattr(kind, name) for kind in VALUES), name)
             self.assertNotIn(name, UNUSED_NAMES)
+
+    def test_calls(self):
+        methods = {node.name for where, node in self.each_node() if isinstance(node, ast.FunctionDef)}
+        for where, node in self.each_node():
+            if isinstance(node, ast.Call) and isinstance(node.func, ast.Attribute):
+                self.assertIn(node.func.attr, methods | set(OWN_METHODS), where)
+                self.assertEqual(node.keywords, [], where)
+            elif isinstance(node, ast.Call):
+                for keyword in node.keywords:
+                    self.assertIn(keyword.arg, KEYWORDS.get(node.func.id, ()), where)
+
+    def test_what_is_walked_at_once(self):
+        for name, tree in self.trees.items():
+            walked = [node.iter for node in ast.walk(tree) if isinstance(node, (ast.For, ast.comprehension))]
+            for node in ast.walk(tree):
+                if isinstance(node, ast.Call) and isinstance(node.func, ast.Name) and node.func.id in WALKERS:
+                    walked += node.args
+            for node in ast.walk(tree):
+                if isinstance(node, ast.Call) and isinstance(node.func, ast.Name) and node.func.id in WALKS:
+                    self.assertTrue(any(node is other for other in walked), (name, node.lineno))
+
+    def test_tables_hold_no_list_and_no_dict_and_are_not_changed(self):
+        for name, tree in self.trees.items():
+            tops = [node for node in tree.body if isinstance(node, ast.Assign)]
+            for node in tops:
+                within = list(ast.walk(node.value))[1:]
+                self.assertFalse(any(isinstance(part, (ast.List, ast.Dict)) for part in within), (name, node.lineno))
+            names = [node.targets[0].id for node in tops]
+            for node in ast.walk(tree):
+                changed = isinstance(node, ast.Subscript) and not isinstance(node.ctx, ast.Load)
+                if (changed or isinstance(node, ast.Attribute)) and isinstance(node.value, ast.Name):
+                    self.assertNotIn(node.value.id, names, (name, node.lineno))
+
+    def test_no_two_files_draw_from_one_another(self):
+        drawn = {
+            name: [node.module.split(".")[1] + ".py" for node in tree.body if isinstance(node, ast.ImportFrom)]
+            for name, tree in self.trees.items()
+        }
+        while drawn:
+            free = [name for name, sources in drawn.items() if not set(sources) & set(drawn)]
+            self.assertNotEqual(free, [], drawn)
+            drawn = {name: sources for name, sources in drawn.items() if name not in free}
 
 
 if __name__ == "__main__":

@@ -1,8 +1,9 @@
 import unittest
 
 from asking import (
-    BIG, EVENT, assert_refused, corrupt_ack, corrupt_frame, deliver_ack, deliver_frame, list_frames, lose_ack,
-    lose_frame, new_link, retransmit, send_ack, send_item,
+    BIG, EVENT, assert_refused, check_parameters, corrupt_ack, corrupt_frame, deliver_ack, deliver_frame, drop_below,
+    find_failure, get_counts, last, list_acks, list_delivered, list_frames, list_in_transit, lose_ack, lose_frame,
+    minimum_times, new_link, receiver_state, recover, retransmit, send_ack, send_item, sender_state,
 )
 
 BEFORE = [new_link(2, 6, 3, 2, 1), new_link(1, 4, 2, 2, 0)]
@@ -26,6 +27,24 @@ class NoLink(unittest.TestCase):
         self.assert_no_link(lambda link: lose_ack(link, 0))
         self.assert_no_link(lambda link: corrupt_ack(link, 0, 0, 7))
         self.assert_no_link(list_frames)
+        self.assert_no_link(list_acks)
+        self.assert_no_link(sender_state)
+        self.assert_no_link(receiver_state)
+        self.assert_no_link(lambda link: list_delivered(link, 0))
+        self.assert_no_link(list_in_transit)
+        self.assert_no_link(recover)
+
+    def test_before_the_first_link(self):
+        for made in (list_acks, sender_state, receiver_state, list_in_transit, recover):
+            self.assertEqual(last([made(0)]), [-2])
+        self.assertEqual(last([list_delivered(0, 0)]), [-2])
+
+    def test_calls_without_a_link_need_none(self):
+        for call, answer in (
+            (minimum_times(), [0, 0]), (drop_below(9), [0]), (check_parameters(2, 6, 3, 2, 1), [1, 0]),
+            (find_failure(2, 6, 3, 2, 1), [0]), (get_counts(), [0]),
+        ):
+            self.assertEqual(last([call]), answer)
 
     def test_ahead_of_every_other_error(self):
         self.assert_no_link(lambda link: send_item(link, [0]))
@@ -41,6 +60,8 @@ class NoLink(unittest.TestCase):
         self.assert_no_link(lambda link: lose_ack(link, 9))
         self.assert_no_link(lambda link: corrupt_ack(link, 9, 0, 7))
         self.assert_no_link(lambda link: corrupt_ack(link, 0, 0, 100000))
+        self.assert_no_link(lambda link: list_delivered(link, -1))
+        self.assert_no_link(lambda link: list_delivered(link, 9))
 
 
 if __name__ == "__main__":

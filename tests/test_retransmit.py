@@ -3,11 +3,6 @@ import unittest
 from asking import (
     BIG, acknowledge, ask, assert_refused, deliver_frame, last, list_frames, new_link, retransmit, send_items, transfer,
 )
-from wrapwindow.link import Link
-from wrapwindow.links import deliver_frame as deliver_to_link
-from wrapwindow.links import list_frames as frames_of
-from wrapwindow.links import retransmit as retransmit_on
-from wrapwindow.links import send_item as send_on
 
 LINK = [new_link(3, 20, 9, 3, 0)]
 
@@ -47,29 +42,6 @@ class Retransmit(unittest.TestCase):
             calls += transfer(0, number) + acknowledge(0)
         calls += send_items(0, 7, 1) + [retransmit(0, 7), list_frames(0)]
         self.assertEqual(ask(calls)[-2:], [[1], [1, 5, 1, 8, 0, 5, 97 * 4 + 1 + 16 + 20]])
-
-
-class Dropped(unittest.TestCase):
-    def setUp(self):
-        self.link = Link(2, 20, 9, 2, 1)
-        send_on(self.link, [[1, 0, 5]])
-        send_on(self.link, [[2, 0, 5]])
-        self.link.sender.dropped[0] = True
-
-    def test_an_empty_frame_is_sent_for_a_dropped_content(self):
-        self.assertEqual(retransmit_on(self.link, [0]), [0])
-        self.assertEqual(retransmit_on(self.link, [1]), [1])
-        self.assertEqual(frames_of(self.link, [])[13:], [2, 0, 97, 5, 1, 2, 0, 5, 413])
-
-    def test_an_empty_frame_is_ignored(self):
-        retransmit_on(self.link, [0])
-        self.assertEqual(deliver_to_link(self.link, [2, 0]), [1, 0])
-        self.assertEqual(self.link.receiver.received, {})
-
-    def test_a_corrupted_empty_frame_is_corrupted(self):
-        retransmit_on(self.link, [0])
-        self.link.frames.packets[2].change(0, 1)
-        self.assertEqual(deliver_to_link(self.link, [2, 0]), [0, 0])
 
 
 if __name__ == "__main__":

@@ -87,11 +87,11 @@ class Limit(unittest.TestCase):
 
     def test_delivered_and_acknowledged_items_count(self):
         calls = [new_link(8, 20, 1, 1, 1)]
-        for number in range(40):
+        for number in range(20):
             calls += transfer(0, number)
             if number == 7:
                 calls += acknowledge(0)
-        calls += send_items(0, 40, 80) + [send_item(0, EVENT)]
+        calls += send_items(0, 20, 100) + [send_item(0, EVENT)]
         self.assertEqual(last(calls), [-8])
 
     def test_another_link_has_its_own_120(self):

@@ -1,11 +1,15 @@
 """The calls: each takes the numbers handed in and gives back the numbers answered."""
 
+from wrapwindow.call_numbers import SEND_ITEM
+from wrapwindow.failure import failure_steps
 from wrapwindow.item import is_item
 from wrapwindow.link import Link
-from wrapwindow.parameters import are_in_range
+from wrapwindow.parameters import NO_CONDITION, are_in_range, violated_condition
 
 LINK_LIMIT = 4
 ITEM_LIMIT = 120
+ROUND_LIMIT = 121
+HIGHEST_TIME_LIMIT = 1000
 LOWEST_CHANGE = -9999
 HIGHEST_CHANGE = 99999
 
@@ -14,20 +18,17 @@ NO_LINK = -2
 NO_ITEM = -3
 NO_PACKET = -5
 NOT_AWAITED = -6
+IN_TRANSIT = -7
 FULL = -8
+NOT_SAFE = -9
 
 
 def new_link(links, arguments):
-    w = arguments[0]
-    m = arguments[1]
-    k = arguments[2]
-    r = arguments[3]
-    o = arguments[4]
-    if not are_in_range(w, m, k, r, o):
+    if not are_in_range(arguments):
         return [OUT_OF_RANGE]
     if len(links) >= LINK_LIMIT:
         return [FULL]
-    link = Link(w, m, k, r, o)
+    link = Link(arguments[0], arguments[1], arguments[2], arguments[3], arguments[4])
     links.append(link)
     return [len(links) - 1, 1 if link.safe else 0]
 
@@ -71,7 +72,7 @@ def corrupt_frame(link, arguments):
 def send_ack(link, arguments):
     fields = link.receiver.ack_fields()
     link.acks.send(fields)
-    return [len(fields)] + fields
+    return told_list(fields)
 
 
 def deliver_ack(link, arguments):
@@ -79,8 +80,7 @@ def deliver_ack(link, arguments):
     if refusal:
         return refusal
     status = link.sender.receive_ack(taken_packet(link.acks, arguments))
-    link.sender.advance_base()
-    sent = link.sender.fill_window()
+    sent = link.sender.move_window()
     return [status, link.sender.base, sent]
 
 
@@ -94,6 +94,108 @@ def corrupt_ack(link, arguments):
 
 def list_frames(link, arguments):
     return packet_list(link.frames)
+
+
+def list_acks(link, arguments):
+    return packet_list(link.acks)
+
+
+def sender_state(link, arguments):
+    sender = link.sender
+    numbers = [sender.base, sender.window_count(), sender.queue_count()]
+    for number in range(sender.base, sender.next_number):
+        numbers.append(0 if sender.awaits_acknowledgement(number) else 1)
+        numbers.append(1 if sender.has_content(number) else 0)
+    return numbers
+
+
+def receiver_state(link, arguments):
+    return [link.receiver.lowest_missing] + told_list(link.receiver.received_above())
+
+
+def list_delivered(link, arguments):
+    first = arguments[0]
+    delivered = link.receiver.delivered
+    if first < 0 or first > len(delivered):
+        return [OUT_OF_RANGE]
+    numbers = [len(delivered)]
+    for number, item in delivered[first:]:
+        numbers.append(number)
+        numbers.extend(told_list(item))
+    return numbers
+
+
+def list_in_transit(link, arguments):
+    return told_list(link.in_transit()) + told_list(link.known_in_transit())
+
+
+def minimum_times(links, arguments):
+    exact = times_in_transit(links)
+    known = []
+    for link in links:
+        known.extend(link.sender.times_of(link.known_in_transit()))
+    return told_minimum(exact) + told_minimum(known)
+
+
+def drop_below(links, arguments):
+    time = arguments[0]
+    if time < 0 or time > HIGHEST_TIME_LIMIT:
+        return [OUT_OF_RANGE]
+    if min(times_in_transit(links), default=time) < time:
+        return [IN_TRANSIT]
+    dropped = 0
+    for link in links:
+        dropped += link.sender.drop_contents(time)
+    return [dropped]
+
+
+def check_parameters(links, arguments):
+    if not are_in_range(arguments):
+        return [OUT_OF_RANGE]
+    condition = violated_condition(arguments)
+    return [1 if condition == NO_CONDITION else 0, condition]
+
+
+def find_failure(links, arguments):
+    if not are_in_range(arguments):
+        return [OUT_OF_RANGE]
+    steps = failure_steps(arguments)
+    numbers = [len(steps)]
+    for step in steps:
+        numbers.extend(step)
+    return numbers
+
+
+def recover(link, arguments):
+    if not link.safe:
+        return [NOT_SAFE]
+    delivered_before = len(link.receiver.delivered)
+    rounds = link.repeat_windows(ROUND_LIMIT)
+    return [rounds, len(link.receiver.delivered) - delivered_before]
+
+
+def get_counts(links, arguments):
+    numbers = [len(links)]
+    for link in links:
+        numbers.extend([len(link.sender.all_items), len(link.receiver.delivered)])
+        numbers.extend([len(link.frames.packets), len(link.acks.packets)])
+        numbers.extend([link.frames.sent_count, link.acks.sent_count])
+    return numbers
+
+
+def told_list(numbers):
+    return [len(numbers)] + numbers
+
+
+def told_minimum(times):
+    return [1, min(times)] if times else [0]
+
+
+def times_in_transit(links):
+    times = []
+    for link in links:
+        times.extend(link.sender.times_of(link.in_transit()))
+    return times
 
 
 def refused_delivery(channel, arguments):
@@ -133,15 +235,12 @@ def corrupt_packet(channel, arguments):
 def packet_list(channel):
     numbers = [len(channel.packets)]
     for packet in channel.packets:
-        numbers.append(len(packet.fields) + 1)
-        numbers.extend(packet.fields)
-        numbers.append(packet.checksum)
+        numbers.extend(told_list(packet.fields + [packet.checksum]))
     return numbers
 
 
 # How many plain numbers each call has; only send_item has a list behind them.
-ARGUMENT_COUNTS = (5, 1, 2, 3, 2, 4, 1, 3, 2, 4, 1)
-SEND_ITEM = 1
+ARGUMENT_COUNTS = (5, 1, 2, 3, 2, 4, 1, 3, 2, 4, 1, 1, 1, 1, 2, 1, 0, 1, 5, 5, 1, 0)
 
 # The calls on one link, which is looked up ahead of them, and those on all links.
 LINK_CALLS = {
@@ -155,9 +254,20 @@ LINK_CALLS = {
     8: lose_ack,
     9: corrupt_ack,
     10: list_frames,
+    11: list_acks,
+    12: sender_state,
+    13: receiver_state,
+    14: list_delivered,
+    15: list_in_transit,
+    20: recover,
 }
 SESSION_CALLS = {
     0: new_link,
+    16: minimum_times,
+    17: drop_below,
+    18: check_parameters,
+    19: find_failure,
+    21: get_counts,
 }
 
 

@@ -63,3 +63,6 @@ class Channel:
 
     def lose(self, place):
         self.packets.pop(place)
+
+    def take_newest(self):
+        return self.packets.pop()

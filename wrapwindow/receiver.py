@@ -35,6 +35,16 @@ class Receiver:
     def deliver(self, number):
         self.delivered.append((number, self.received[number]))
 
+    def has_delivered(self, number):
+        if self.ordered:
+            return number < self.lowest_missing
+        return number in self.received
+
+    # Nothing from x + W on has ever been accepted, as x never becomes smaller.
+    def received_above(self):
+        end = self.lowest_missing + self.window_size
+        return [number for number in range(self.lowest_missing, end) if number in self.received]
+
     def ack_fields(self):
         fields = [self.lowest_missing % self.modulus]
         for distance in range(1, self.window_size):

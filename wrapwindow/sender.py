@@ -1,5 +1,6 @@
 """The sender of a link: its window, its queue, and what acknowledgements do to them."""
 
+from wrapwindow.item import time_of
 from wrapwindow.packets import ACCEPTED, CORRUPTED, IGNORED, number_meant
 
 
@@ -25,8 +26,29 @@ class Sender:
     def in_window(self, number):
         return self.base <= number < self.next_number
 
+    def window_count(self):
+        return self.next_number - self.base
+
+    def queue_count(self):
+        return len(self.all_items) - self.next_number
+
     def awaits_acknowledgement(self, number):
         return self.in_window(number) and number not in self.acknowledged
+
+    # No number of the queue is ever acknowledged, so that the window's end needn't be asked for.
+    def unacknowledged(self):
+        item_count = len(self.all_items)
+        return [number for number in range(self.base, item_count) if number not in self.acknowledged]
+
+    def times_of(self, numbers):
+        return [time_of(self.all_items[number]) for number in numbers]
+
+    def drop_contents(self, time):
+        dropped_before = len(self.dropped)
+        for number in range(self.base, self.next_number):
+            if time_of(self.all_items[number]) < time:
+                self.dropped[number] = True
+        return len(self.dropped) - dropped_before
 
     def send_frame(self, number):
         fields = [number % self.modulus]
@@ -46,6 +68,10 @@ class Sender:
             if distance > 0 and field == 1 and self.in_window(missing + distance):
                 self.acknowledged[missing + distance] = True
         return ACCEPTED
+
+    def move_window(self):
+        self.advance_base()
+        return self.fill_window()
 
     def advance_base(self):
         while self.base in self.acknowledged:
